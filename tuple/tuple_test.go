@@ -351,17 +351,3 @@ func TestExamples(t *testing.T) {
 		refuse(t, s)
 	}
 }
-
-// What lays and reads numbers does so at the size of each kind.
-func TestLaidAtEachSize(t *testing.T) {
-	b := lay(lay(lay([]byte("ahead"), uint8(0x12)), uint16(0x3456)), uint32(0x789abcde))
-	if string(b) != "ahead\x12\x34\x56\x78\x9a\xbc\xde" {
-		t.Fatalf("laid: %q", b)
-	}
-	x, rest := take[uint8](string(b[5:]))
-	y, rest := take[uint16](rest)
-	z, rest := take[uint32](rest)
-	if x != 0x12 || y != 0x3456 || z != 0x789abcde || rest != "" {
-		t.Errorf("read: %x %x %x, and %q is left", x, y, z, rest)
-	}
-}
